@@ -1,0 +1,1 @@
+"""Combstrip: planks filled by combs, each place under just one tooth."""
