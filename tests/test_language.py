@@ -1,4 +1,4 @@
-"""What a test can see of the rules of the language: L1, L10 and L14."""
+"""What a test can see of the rules of the language on files, lines and signs: L1, L10 and L14."""
 
 import ast
 import builtins
@@ -72,7 +72,7 @@ class TestPackage(unittest.TestCase):
 
     def test_the_files_of_the_interface_are_there(self):
         names = [path.name for path in paths_within(PACKAGE)]
-        for name in ["__init__.py", "errors.py", "sizes.py", "combs.py"]:
+        for name in ["__init__.py", "errors.py", "sizes.py", "combs.py", "book.py", "shapes.py", "strip.py"]:
             self.assertIn(name, names)
 
     def test_nothing_but_python_files_lies_in_the_package(self):
