@@ -1,4 +1,4 @@
-"""What a test can see of the rules of the language on the parsed files: L2 to L8, L12, L15 to L18, L20 to L27."""
+"""What a test can see of the rules on the parsed files: L2 to L8, L12, L15 to L18, L20, L21, L23 to L27, in part."""
 
 import ast
 import builtins
