@@ -72,7 +72,8 @@ class TestPackage(unittest.TestCase):
 
     def test_the_files_of_the_interface_are_there(self):
         names = [path.name for path in paths_within(PACKAGE)]
-        for name in ["__init__.py", "errors.py", "sizes.py", "combs.py", "book.py", "shapes.py", "strip.py"]:
+        wanted = ["__init__.py", "errors.py", "sizes.py", "combs.py", "book.py", "shapes.py", "strip.py", "line.py"]
+        for name in wanted + ["lengths.py", "fillings.py", "far.py"]:
             self.assertIn(name, names)
 
     def test_nothing_but_python_files_lies_in_the_package(self):

@@ -4,7 +4,8 @@ import unittest
 from combstrip.book import Book
 from combstrip.shapes import shapes_at
 from combstrip.strip import fill_strip
-from helper import book_of, combs_of, first_layings, full_of_deeds, shape_of, shapes_of_plank, some_combs
+from helper import book_of, by_other_deeds, combs_of, first_layings, full_of_deeds, shape_of, shapes_of_plank
+from helper import some_combs
 
 # Combs whose strip is filled, and all that is told of it.
 FILLED = [
@@ -41,7 +42,9 @@ LONG_ONES = [
     {"a": [0, 2, 5, 6, 7], "b": [0, 1, 3], "c": [0, 7], "d": [0, 2, 4, 5], "e": [0, 1, 7]},
     {"a": [0, 2, 3, 5, 6], "b": [0, 2, 3, 5], "c": [0, 2, 6], "d": [0, 3, 7], "e": [0, 3, 5, 6]},
     {"a": [0, 1, 4, 7], "b": [0, 5, 6], "c": [0, 1, 2, 5], "d": [0, 2, 3, 4, 6], "e": [0, 1, 6]},
+    {"a": [0, 1, 4, 6], "b": [0, 2, 6, 7], "c": [0, 7]},
     {"a": [0, 1, 3], "b": [0, 1, 5, 6, 7], "c": [0, 1, 3, 5], "d": [0, 2, 7]},
+    {"a": [0, 5, 6, 7], "b": [0, 1, 7], "c": [0, 3, 4, 5, 7]},
     {"a": [0, 3, 7], "b": [0, 2, 6]},
 ]
 
@@ -124,8 +127,9 @@ class TestFillStrip(StripCase):
 
     def test_strips_with_long_answers(self):
         told = [self.check(combs)[:3] for combs in LONG_ONES]
-        self.assertEqual(told[:4], [("filled", 35, 18), ("filled", 0, 42), ("filled", 1, 24), ("filled", 0, 40)])
-        self.assertEqual([answer[:2] for answer in told[4:]], [("stuck", 26), ("stuck", 25)])
+        filled = [("filled", 35, 18), ("filled", 0, 42), ("filled", 1, 24), ("filled", 0, 40), ("filled", 0, 64)]
+        self.assertEqual(told[:5], filled)
+        self.assertEqual([answer[:2] for answer in told[5:]], [("stuck", 26), ("stuck", 37), ("stuck", 25)])
 
     def test_the_names_and_not_the_teeth_tell_which_filling_is_first(self):
         self.assertEqual(fill_strip(book_of({"a": [0], "b": [0, 2]})), ("filled", 0, 1, [(0, "a")]))
@@ -166,14 +170,7 @@ class TestWhatTheAnswerHangsOn(StripCase):
     def test_other_deeds(self):
         for combs in LONG_ONES:
             wanted = fill_strip(book_of(combs))
-            book = Book()
-            for name in sorted(combs, reverse=True):
-                book.put("x", [0, 6])
-                book.put(name, [0, 2])
-                for tooth in range(1, 8):
-                    if (tooth in combs[name]) != (tooth in book.teeth(name)):
-                        book.add_tooth(name, tooth) if tooth in combs[name] else book.take_off(name, tooth)
-                book.drop("x")
+            book = by_other_deeds(combs)
             self.assertEqual(combs_of(book), combs)
             self.assertEqual(fill_strip(book), wanted)
             book.put("aa", [0])
